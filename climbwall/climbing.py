@@ -65,10 +65,13 @@ def make_moves(wall, moves):
 def climb_route(wall, c, r):
     if not are_there(wall, c, r):
         return [NO_SUCH]
-    if wall.routes[r].must_lead and not wall.climbers[c].may_lead:
+    climber = wall.climbers[c]
+    if wall.routes[r].must_lead and not climber.may_lead:
         return [MUST_LEAD]
     # The way is the first one as the holds are at the beginning: wear on the way up doesn't end it.
     moves = way_of(wall, c, r)
     if not moves:
         return [NO_WAY]
+    climber.climbs += 1
+    climber.moves += len(moves)
     return [len(moves), make_moves(wall, moves)]

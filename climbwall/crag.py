@@ -1,5 +1,11 @@
 """The calls on one wall, read from one list of whole numbers, and their answers in another."""
 
+from climbwall.asking import best_route
+from climbwall.asking import least_reach
+from climbwall.asking import least_strength
+from climbwall.asking import needed_holds
+from climbwall.asking import tell_which
+from climbwall.asking import tell_who
 from climbwall.climbing import can_climb
 from climbwall.climbing import climb_route
 from climbwall.climbing import fewest_moves
@@ -15,6 +21,13 @@ from climbwall.setting import shift_hold
 from climbwall.setting import take_off
 from climbwall.setting import train_climber
 from climbwall.setting import turn_hold
+from climbwall.telling import look_at
+from climbwall.telling import tell_due
+from climbwall.telling import tell_log
+from climbwall.telling import tell_near
+from climbwall.telling import tell_route
+from climbwall.telling import tell_span
+from climbwall.telling import tell_state
 
 BEGIN = 0
 HOLD = 1
@@ -28,9 +41,22 @@ TRAIN = 8
 CAN = 9
 FEWEST = 10
 WAY = 11
+CLIMB = 12
+WHO = 13
+WHICH = 14
+REACH = 15
+STRONG = 16
+NEEDED = 17
+SPAN = 18
+NEAR = 19
+DUE = 20
+BEST = 21
+LOOK = 22
+TOLD = 23
+LOG = 24
 
 # By a call's number: how many whole numbers stand behind it (a row of route's not counted).
-WIDTHS = (1, 3, 3, 1, 1, 2, 1, 3, 2, 2, 2, 2, 2)
+WIDTHS = (1, 3, 3, 1, 1, 2, 1, 3, 2, 2, 2, 2, 2, 1, 1, 1, 1, 2, 2, 2, 1, 1, 1, 1, 1, 0)
 
 
 def answer_hold_call(wall, call, told):
@@ -63,6 +89,36 @@ def answer_climbing_call(wall, call, told):
     return climb_route(wall, told[0], told[1])
 
 
+def answer_asking_call(wall, call, told):
+    if call == WHO:
+        return tell_who(wall, told[0])
+    if call == WHICH:
+        return tell_which(wall, told[0])
+    if call == REACH:
+        return least_reach(wall, told[0])
+    if call == STRONG:
+        return least_strength(wall, told[0])
+    if call == NEEDED:
+        return needed_holds(wall, told[0], told[1])
+    return best_route(wall, told[0])
+
+
+def answer_telling_call(wall, call, told):
+    if call == SPAN:
+        return tell_span(wall, told[0], told[1])
+    if call == NEAR:
+        return tell_near(wall, told[0], told[1])
+    if call == DUE:
+        return tell_due(wall, told[0])
+    if call == LOOK:
+        return look_at(wall, told[0])
+    if call == TOLD:
+        return tell_route(wall, told[0])
+    if call == LOG:
+        return tell_log(wall, told[0])
+    return tell_state(wall)
+
+
 def answer_call(wall, call, told, row):
     if call == BEGIN:
         return begin(wall, told[0])
@@ -72,7 +128,11 @@ def answer_call(wall, call, told, row):
         return answer_hold_call(wall, call, told)
     if call <= TRAIN:
         return answer_people_call(wall, call, told, row)
-    return answer_climbing_call(wall, call, told)
+    if call <= CLIMB:
+        return answer_climbing_call(wall, call, told)
+    if call <= NEEDED or call == BEST:
+        return answer_asking_call(wall, call, told)
+    return answer_telling_call(wall, call, told)
 
 
 def answers(calls):

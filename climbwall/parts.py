@@ -21,12 +21,14 @@ class Route:
 
 
 class Climber:
-    """Somebody with two hands."""
+    """Somebody with two hands; climbs are those they made, moves how many these had in all."""
 
     def __init__(self, reach, strength, may_lead):
         self.reach = reach
         self.strength = strength
         self.may_lead = may_lead
+        self.climbs = 0
+        self.moves = 0
 
 
 class Wall:

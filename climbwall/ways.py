@@ -9,10 +9,18 @@ def can_hold(climber, hold):
     return hold.on and hold.grip + climber.strength >= ENOUGH_TO_HOLD
 
 
+def apart_squared(hold, other):
+    across = hold.x - other.x
+    up = hold.y - other.y
+    return across * across + up * up
+
+
+def is_within_reach(climber, hold, other):
+    return apart_squared(hold, other) <= climber.reach * climber.reach
+
+
 def can_be_on(climber, left, right):
-    across = right.x - left.x
-    up = right.y - left.y
-    return across >= 0 and across * across + up * up <= climber.reach * climber.reach
+    return left.x <= right.x and is_within_reach(climber, left, right)
 
 
 def hands_after(hands, move):

@@ -59,30 +59,84 @@ def climb(c, r):
     return [12, c, r]
 
 
+def who(r):
+    return [13, r]
+
+
+def which(c):
+    return [14, c]
+
+
+def reach(r):
+    return [15, r]
+
+
+def strong(r):
+    return [16, r]
+
+
+def needed(c, r):
+    return [17, c, r]
+
+
+def span(h, i):
+    return [18, h, i]
+
+
+def near(c, h):
+    return [19, c, h]
+
+
+def due(n):
+    return [20, n]
+
+
+def best(c):
+    return [21, c]
+
+
+def look(h):
+    return [22, h]
+
+
+def told(r):
+    return [23, r]
+
+
+def log(c):
+    return [24, c]
+
+
+def state():
+    return [25]
+
+
 def run(calls):
     """The answer of each call, one list each."""
     given = answers([number for call in calls for number in call])
-    told = []
+    rows = []
     at = 0
     while at < len(given):
-        told.append(given[at + 1:at + 1 + given[at]])
+        rows.append(given[at + 1:at + 1 + given[at]])
         at += 1 + given[at]
     assert at == len(given), "an answer is shorter than its count"
-    assert len(told) == len(calls), "not one answer for each call"
-    return told
+    assert len(rows) == len(calls), "not one answer for each call"
+    return rows
 
 
 def last(calls):
     return run(calls)[-1]
 
 
-def reveal():
-    """Calls whose answers show all that is kept.
+def show():
+    """Calls that tell all that is kept."""
+    return ([state()] + [look(h) for h in range(20)] + [told(r) for r in range(6)] + [log(c) for c in range(8)])
 
-    They put holds at x 48 and 49, so the walls they are asked of have none there.
-    """
+
+def reveal():
+    """Calls that tell all that is kept, then calls that use and change it."""
     pairs = [(c, r) for c in range(8) for r in range(6)]
-    calls = [way(c, r) for c, r in pairs] + [climb(c, r) for c, r in pairs]
+    calls = show() + [way(c, r) for c, r in pairs] + [climb(c, r) for c, r in pairs]
     for h in range(20):
         calls += [off(h), back(h), shift(h, 49, h), turn(h, 9)]
     calls += [train(c, 9) for c in range(8)]
@@ -100,12 +154,16 @@ class WallCase(unittest.TestCase):
     def check_last(self, calls, wanted):
         self.assertEqual(last(calls), wanted)
 
+    def check_tells(self, setup, call, wanted):
+        """The call is answered so, and all is as if it had not been made."""
+        rows = run(setup + [call] + reveal())
+        at = len(setup)
+        self.assertEqual(rows[at], wanted, call)
+        self.assertEqual(rows[:at] + rows[at + 1:], run(setup + reveal()), call)
+
     def check_refused(self, setup, call, number):
         """The call is answered with the number alone, and all is as if it had not been made."""
-        told = run(setup + [call] + reveal())
-        at = len(setup)
-        self.assertEqual(told[at], [number], call)
-        self.assertEqual(told[:at] + told[at + 1:], run(setup + reveal()), call)
+        self.check_tells(setup, call, [number])
 
     def check_all_refused(self, setup, calls, number):
         for call in calls:
